@@ -9,6 +9,8 @@ FLUSH = [2]
 COPY = [3]
 TURN = [4]
 START = [6]
+SHOWS = [7]
+STATE = [11]
 HUGE = 4294967295
 
 
@@ -18,6 +20,22 @@ def change(place, gone, coming):
 
 def power(*numbers):
     return [5, len(numbers)] + list(numbers)
+
+
+def on_disk(file):
+    return [8, file]
+
+
+def spoil(file, place, byte):
+    return [9, file, place, byte]
+
+
+def read(row):
+    return [10, len(row)] + list(row)
+
+
+def was(mark):
+    return [12, mark]
 
 
 def line(calls):
@@ -58,6 +76,7 @@ class Model:
         self.copying = False
         self.files = [ModelFile(), ModelFile()]
         self.way = []
+        self.marks = {0: []}
         self.begin(0, 1, [], 0)
 
     def begin(self, used, number, text, mark):
@@ -107,6 +126,7 @@ class Model:
         if self.size + 7 > 600:
             return [-6]
         self.last += 1
+        self.marks[self.last] = self.text
         self.step(self.text, self.last, 7)
         return [self.last, self.size]
 
@@ -143,6 +163,7 @@ class Model:
         self.used = 1 - self.used
         self.number += 1
         self.last += 1
+        self.marks[self.last] = self.text
         self.size = 15 + len(self.text)
         self.copying = False
         used, number = self.files[self.used], self.number
@@ -175,5 +196,16 @@ class Model:
             if step["mark"] is not None:
                 text, mark = step["text"], step["mark"]
         self.begin(1 - found, self.files[found].number + 1, text, mark)
+        self.marks = {number: kept for number, kept in self.marks.items() if number <= mark}
         self.on = True
         return [mark, len(text), found]
+
+    def shows(self):
+        return [len(self.text)] + self.text if self.on else [-9]
+
+    def state(self):
+        return [int(self.on), self.last, self.safe, len(self.way), self.used, self.number, self.size,
+                int(self.copying)]
+
+    def was(self, mark):
+        return [len(self.marks[mark])] + self.marks[mark] if mark in self.marks else [-2]

@@ -7,9 +7,11 @@ from helper import HUGE, Model
 from powerkept.editor import Editor, answers
 
 # Some lines are mostly of changes, so that a file gets full; others go through everything.
-MOODS = ([0, 0, 0, 0, 0, 1, 1, 1, 2, 3, 4, 4, 5, 6], [0] * 30 + [1] * 12 + [2, 3, 4, 5])
-WITHOUT_POWER = [6, 6, 6, 0, 1, 2, 3, 4, 5]
-PLAIN = {1: "mark", 2: "flush", 3: "make_copy", 4: "turn", 6: "start"}
+MOODS = ([0, 0, 0, 0, 0, 1, 1, 1, 2, 3, 4, 4, 5, 6, 7, 11, 11, 12, 12],
+         [0] * 30 + [1] * 12 + [2, 3, 4, 5, 7, 11, 12],
+         [0] * 20 + [1] * 8 + [7, 11, 12])
+WITHOUT_POWER = [6, 6, 6, 0, 1, 2, 3, 4, 5, 7, 11, 12]
+PLAIN = {1: "mark", 2: "flush", 3: "make_copy", 4: "turn", 6: "start", 7: "shows", 11: "state"}
 
 
 def some_change(chance, text):
@@ -46,6 +48,10 @@ def some_line(chance):
             numbers = some_numbers(chance, model.way)
             calls += [5, len(numbers)] + numbers
             answer = model.power(numbers)
+        elif number == 12:
+            mark = chance.choice([0, model.last, model.last + 1, chance.randint(0, model.last + 3), HUGE])
+            calls += [12, mark]
+            answer = model.was(mark)
         else:
             calls.append(number)
             answer = getattr(model, PLAIN[number])()
@@ -64,6 +70,9 @@ def played(calls):
         elif number == 5:
             end = place + 2 + calls[place + 1]
             editor.power(calls[place + 2:end])
+        elif number == 12:
+            end = place + 2
+            editor.was(calls[place + 1])
         else:
             end = place + 1
             getattr(editor, PLAIN[number])()
@@ -90,14 +99,28 @@ class ManyLines(unittest.TestCase):
                              (model.last, model.safe, model.used, model.number, model.size, model.copying), calls)
             self.assertEqual([len(write.coming) for write in editor.disk.writes],
                              [length for length, arrive in model.way])
+            self.assertEqual(editor.remembered, model.marks, calls)
 
     def test_lines_reach_every_refusal(self):
         chance = random.Random(20)
         seen = set()
-        for each in range(300):
+        for each in range(1000):
             calls, given, model = some_line(chance)
             seen.update(number for number in given if number < 0)
-        self.assertEqual(seen, {-1, -5, -6, -8, -9})
+        self.assertEqual(seen, {-1, -2, -5, -6, -8, -9})
+
+    def test_found_is_the_text_of_the_safe_mark_or_of_a_later_one(self):
+        chance = random.Random(22)
+        for each in range(1500):
+            calls, given, model = some_line(chance)
+            editor = played(calls)
+            if editor.powered:
+                editor.power(some_numbers(chance, model.way))
+            safe, remembered = editor.safe, dict(editor.remembered)
+            mark, length, found = editor.start()
+            self.assertGreaterEqual(mark, safe, calls)
+            self.assertEqual(editor.shows(), [length] + remembered[mark], calls)
+            self.assertEqual(editor.was(mark), editor.shows())
 
 
 if __name__ == "__main__":
